@@ -1,0 +1,1 @@
+"""Pages made of templates and of data that anybody may have written."""
