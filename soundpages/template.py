@@ -46,7 +46,8 @@ class Template:
 
     def end_part(self, part):
         part.partner = self.unended.pop()
-        self.parts[part.partner].partner = len(self.parts)
+        begun = self.parts[part.partner]
+        begun.partner = len(self.parts)
         self.parts.append(part)
 
     def is_in_element(self, name):

@@ -23,6 +23,11 @@ def fill(name, d):
     return [3] + row(name) + row(d)
 
 
+def attributes(number):
+    """So many attributes of an element, each of another name."""
+    return "".join(f' a{count}=""' for count in range(number))
+
+
 def line(*calls):
     return [number for call in calls for number in call]
 

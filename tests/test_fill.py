@@ -2,11 +2,7 @@
 
 import unittest
 
-from tests.helper import ask, fill, page, put, take
-
-
-def attributes(number):
-    return "".join(f' a{count}=""' for count in range(number))
+from tests.helper import ask, attributes, fill, page, put, take
 
 
 def deep(number):

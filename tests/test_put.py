@@ -2,13 +2,9 @@
 
 import unittest
 
-from tests.helper import ask, fill, put, put_alone, take
+from tests.helper import ask, attributes, fill, put, put_alone, take
 
 LONG_NAME = "abcdefghijklmn-0"
-
-
-def attributes(number):
-    return "".join(f' a{count}=""' for count in range(number))
 
 
 def deep(number):
